@@ -1,0 +1,1 @@
+"""Relays that move in whatever order."""
