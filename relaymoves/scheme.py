@@ -1,6 +1,8 @@
-"""A scheme of relays, the state that it is in, and the calls on it."""
+"""The calls on a scheme of relays and the state that it is in."""
 
-from relaymoves.reading import CONTACT, INPUT, NO_FAULT, RELAY, entries_of, first_fault
+from relaymoves.courses import least_ring, longest_courses, rests_among, shortest_courses, steps_from
+from relaymoves.reading import NO_FAULT, entries_of, first_fault
+from relaymoves.relays import Scheme, is_rest, next_states, own_bits, relay_bit, states_alike, unsettled_relays
 
 LOAD = 1
 SET = 2
@@ -8,6 +10,12 @@ TOLD = 3
 UNSETTLED = 4
 MOVE = 5
 MOVES = 6
+COME = 7
+RESTS = 8
+FATE = 9
+COURSE = 10
+RING = 11
+ALL = 12
 
 BAD_ARGUMENT = -1
 NOT_POSSIBLE = -5
@@ -17,93 +25,12 @@ LONGEST_TEXT = 20000
 STATE_LIMIT = 4294967296
 MOST_RELAYS_TO_EXPLORE = 6
 
-FIRST_RELAY_VARIABLE = 16
-NODES = 64
-RAIL = 0
-
-
-# Inputs, relays and contacts; lamps are left out, since no call asks for them.
-class Scheme:
-    def __init__(self, entries):
-        self.input_count = 0
-        self.relay_nodes = []
-        self.contacts = []
-        variables = {}
-        for entry in entries:
-            if entry.rank == INPUT:
-                variables[entry.name] = self.input_count
-                self.input_count += 1
-            elif entry.rank == RELAY:
-                variables[entry.name] = FIRST_RELAY_VARIABLE + len(self.relay_nodes)
-                self.relay_nodes.append(entry.nodes[0])
-            elif entry.rank == CONTACT:
-                self.contacts.append((entry.nodes[0], entry.nodes[1], entry.closes, variables[entry.name]))
-
 
 # What the calls work on: a scheme, and the state that it is in.
 class Board:
     def __init__(self):
         self.scheme = Scheme([])
         self.state = 0
-
-
-def is_on(state, variable):
-    return ((state >> variable) & 1) == 1
-
-
-def relay_bit(relay):
-    return 1 << (FIRST_RELAY_VARIABLE + relay)
-
-
-# The state without the bits of no variable.
-def own_bits(scheme, state):
-    inputs = (1 << scheme.input_count) - 1
-    relays = (1 << len(scheme.relay_nodes)) - 1
-    return state & (inputs | (relays << FIRST_RELAY_VARIABLE))
-
-
-# For each node the nodes that a contact which lets through joins to it.
-def neighbours(scheme, state):
-    beside = [[] for node in range(NODES)]
-    for lesser, greater, closes, variable in scheme.contacts:
-        if is_on(state, variable) == closes:
-            beside[lesser].append(greater)
-            beside[greater].append(lesser)
-    return beside
-
-
-# For each node whether it is live.
-def live_nodes(scheme, state):
-    beside = neighbours(scheme, state)
-    live = [False for node in range(NODES)]
-    live[RAIL] = True
-    waiting = [RAIL]
-    while len(waiting) > 0:
-        node = waiting.pop()
-        for other in beside[node]:
-            if not live[other]:
-                live[other] = True
-                waiting.append(other)
-    return live
-
-
-def unsettled_relays(scheme, state):
-    live = live_nodes(scheme, state)
-    found = []
-    for relay, node in enumerate(scheme.relay_nodes):
-        if is_on(state, FIRST_RELAY_VARIABLE + relay) != live[node]:
-            found.append(relay)
-    return found
-
-
-# The states that one move leads to, rising.
-def next_states(scheme, state):
-    reached = [state]
-    for relay in unsettled_relays(scheme, state):
-        bit = relay_bit(relay)
-        reached = reached + [earlier ^ bit for earlier in reached]
-    # The first is the state itself, with no relay turned, and that is no move.
-    return sorted(reached[1:])
 
 
 # Whether the relays rise, are all unsettled, and are one at least.
@@ -155,19 +82,66 @@ def answer_move(board, relays):
 
 
 def answer_moves(board):
-    if len(board.scheme.relay_nodes) > MOST_RELAYS_TO_EXPLORE:
-        return [TOO_MANY_RELAYS]
     return [0] + next_states(board.scheme, board.state)
 
 
-# How many numbers the call has that begins there.
-def call_length(calls, start):
-    number = calls[start]
-    if number == LOAD or number == MOVE:
-        return 2 + calls[start + 1]
-    if number == SET:
-        return 2
-    return 1
+def answer_come(board):
+    return [0] + sorted(steps_from(board.scheme, board.state))
+
+
+def answer_rests(board):
+    return [0] + rests_among(steps_from(board.scheme, board.state))
+
+
+def answer_fate(board):
+    steps = steps_from(board.scheme, board.state)
+    rest_count = len(rests_among(steps))
+    longest = longest_courses(steps)
+    if board.state not in longest:
+        return [0, rest_count, 1, 0]
+    return [0, rest_count, 0, longest[board.state]]
+
+
+def answer_course(board, number):
+    courses = shortest_courses(steps_from(board.scheme, board.state), board.state)
+    goal = own_bits(board.scheme, number)
+    if goal not in courses:
+        return [NOT_POSSIBLE]
+    return [0] + courses[goal]
+
+
+def answer_ring(board):
+    ring = least_ring(steps_from(board.scheme, board.state))
+    if len(ring) == 0:
+        return [NOT_POSSIBLE]
+    return [0] + ring
+
+
+def answer_all(board):
+    return [0] + [state for state in states_alike(board.scheme, board.state) if is_rest(board.scheme, state)]
+
+
+# The calls that look at many states; those of a scheme with many relays would be too many.
+def answer_exploring(board, call):
+    number = call[0]
+    # What is no state is refused ahead of the many relays.
+    if number == COURSE and not is_state(call[1]):
+        return [BAD_ARGUMENT]
+    if len(board.scheme.relay_nodes) > MOST_RELAYS_TO_EXPLORE:
+        return [TOO_MANY_RELAYS]
+    if number == MOVES:
+        return answer_moves(board)
+    if number == COME:
+        return answer_come(board)
+    if number == RESTS:
+        return answer_rests(board)
+    if number == FATE:
+        return answer_fate(board)
+    if number == COURSE:
+        return answer_course(board, call[1])
+    if number == RING:
+        return answer_ring(board)
+    return answer_all(board)
 
 
 def answer_of(board, call):
@@ -182,9 +156,19 @@ def answer_of(board, call):
         return answer_unsettled(board)
     if number == MOVE:
         return answer_move(board, call[2:])
-    if number == MOVES:
-        return answer_moves(board)
+    if MOVES <= number <= ALL:
+        return answer_exploring(board, call)
     raise ValueError(f"no call has the number {number}")
+
+
+# How many numbers the call has that begins there.
+def call_length(calls, start):
+    number = calls[start]
+    if number == LOAD or number == MOVE:
+        return 2 + calls[start + 1]
+    if number == SET or number == COURSE:
+        return 2
+    return 1
 
 
 # The answers to the calls on a new object, each with how many numbers it has before it.

@@ -7,6 +7,11 @@ from relaymoves.scheme import answers
 TOLD = [3]
 UNSETTLED = [4]
 MOVES = [6]
+COME = [7]
+RESTS = [8]
+FATE = [9]
+RING = [11]
+ALL = [12]
 
 
 def load(text):
@@ -20,6 +25,10 @@ def put(number):
 
 def move(*relays):
     return [5, len(relays)] + list(relays)
+
+
+def course(number):
+    return [10, number]
 
 
 def split_answers(told):
@@ -130,6 +139,95 @@ def plain_moves(text, state):
     return sorted(found)
 
 
+def plain_steps(text, state):
+    """For each state that may come, those that one move leads to; states are taken up until there is no new one."""
+    steps = {}
+    new = {state}
+    while new:
+        steps.update({one: plain_moves(text, one) for one in new})
+        new = {later for one in new for later in steps[one]} - set(steps)
+    return steps
+
+
+def plain_layers(steps, state):
+    """The states that just 0 moves lead to, just 1 move, just 2 .., up to as many moves as there are states."""
+    layers = [{state}]
+    while layers[-1] and len(layers) <= len(steps):
+        layers.append({later for one in layers[-1] for later in steps[one]})
+    return [layer for layer in layers if layer]
+
+
+def plain_rests(steps):
+    return sorted(state for state in steps if not steps[state])
+
+
+def plain_fate(steps, state):
+    # A course of as many moves as there are states comes to one of them twice.
+    longest = len(plain_layers(steps, state)) - 1
+    ring = longest >= len(steps)
+    return [len(plain_rests(steps)), int(ring), 0 if ring else longest]
+
+
+def plain_way(steps, state, goal):
+    """Of all states from which the goal is so and so many moves off, the least is taken, again and again."""
+    near = [{goal}]
+    while state not in near[-1]:
+        near.append({one for one in steps if near[-1] & set(steps[one])})
+    way = []
+    for layer in reversed(near[:-1]):
+        way.append(min(layer & set(steps[way[-1] if way else state])))
+    return way
+
+
+def plain_course(steps, state, goal):
+    return [0] + plain_way(steps, state, goal) if goal in steps else [-5]
+
+
+def plain_ring(steps):
+    least = [state for state in sorted(steps) if any(state in layer for layer in plain_layers(steps, state)[1:])][:1]
+    if not least:
+        return [-5]
+    ways = [[later] + plain_way(steps, later, least[0]) for later in steps[least[0]]
+            if least[0] in plain_come(steps, later)]
+    return [0, least[0]] + min(ways, key=lambda way: (len(way), way))[:-1]
+
+
+def plain_come(steps, state):
+    return set().union(*plain_layers(steps, state))
+
+
+def plain_all(text, state):
+    relays = sum(row.startswith("relay ") for row in text.splitlines())
+    alike = [state % 2 ** 16 + (on_relays << 16) for on_relays in range(2 ** relays)]
+    return [one for one in alike if not plain_unsettled(text, one)]
+
+
+def plain_explored(text, state, call):
+    """The answer to one of the calls 6 to 12 in the state."""
+    if call[0] == 10 and not 0 <= call[1] < 2 ** 32:
+        return [-1]
+    rows = text.splitlines()
+    inputs = sum(row.startswith("in ") for row in rows)
+    relays = sum(row.startswith("relay ") for row in rows)
+    if relays > 6:
+        return [-9]
+    if call == MOVES:
+        return [0] + plain_moves(text, state)
+    if call == ALL:
+        return [0] + plain_all(text, state)
+    steps = plain_steps(text, state)
+    if call == COME:
+        return [0] + sorted(steps)
+    if call == RESTS:
+        return [0] + plain_rests(steps)
+    if call == FATE:
+        return [0] + plain_fate(steps, state)
+    if call == RING:
+        return plain_ring(steps)
+    own = on(*range(inputs), *range(16, 16 + relays))
+    return plain_course(steps, state, call[1] & own)
+
+
 def random_scheme(source, relays):
     inputs = source.randrange(1, 17)
     last_node = source.choice((3, 8, 63))
@@ -140,3 +238,55 @@ def random_scheme(source, relays):
         nodes = sorted(source.sample(range(last_node + 1), 2))
         rows.append(f"{source.choice(('open', 'close'))} {source.choice(names)} {nodes[0]} {nodes[1]}")
     return lines(*rows)
+
+
+def lively_scheme(source, relays):
+    """Few nodes near the rail, worked by the relays mostly, so that many move and hold and break one another."""
+    names = ["a"] + [f"r{count}" for count in range(relays)] * 3
+    rows = ["in a"] + [f"relay r{count} at {source.randint(1, 5)}" for count in range(relays)]
+    for count in range(source.randint(4, 16)):
+        lesser = source.choice((0, 0, 1, 2, 3))
+        node = source.randint(lesser + 1, 6)
+        rows.append(f"{source.choice(('open', 'close'))} {source.choice(names)} {lesser} {node}")
+    return lines(*rows)
+
+
+def relays_at_the_rail(count):
+    return load(lines(*[f"relay r{place} at 0" for place in range(count)]))
+
+
+def gray(count):
+    """The states of 6 relays one after another in the order that counting_scheme goes through them."""
+    return [(number ^ number >> 1) << 16 for number in range(count)]
+
+
+def counting_scheme(for_ever):
+    """6 relays of which just one at a time is unsettled: 63 moves lead from 0 to on(21), and one more to 0 if for ever.
+
+    In a state relay 0 draws if evenly many of the others are on. Another, j, does as evenly many of those above it
+    say where of those below it j - 1 alone is on, and else stays as it is.
+    """
+    fresh = iter(range(1, 64))
+    rows = []
+    even = {6: 0}
+    odd = {}
+    for relay in range(5, 0, -1):
+        even[relay] = next(fresh)
+        odd[relay] = next(fresh)
+        for above, same, other in ((even, even, odd), (odd, odd, even)):
+            if relay + 1 in above:
+                rows.append(f"open r{relay} {above[relay + 1]} {same[relay]}")
+                rows.append(f"close r{relay} {above[relay + 1]} {other[relay]}")
+    coils = [even[1]]
+    for relay in range(1, 6):
+        held = next(fresh)
+        way = [next(fresh) for place in range(relay)]
+        coils.append(way[-1])
+        rows.append(f"close r{relay} 0 {held}")
+        before = even[relay + 1]
+        for below in range(relay):
+            rows.append(f"{'close' if below == relay - 1 else 'open'} r{below} {before} {way[below]}")
+            before = way[below]
+            if not (for_ever and relay == 5 and below == 4):
+                rows.append(f"{'open' if below == relay - 1 else 'close'} r{below} {held} {way[-1]}")
+    return lines(*[f"relay r{place} at {coil}" for place, coil in enumerate(coils)], *rows)

@@ -44,6 +44,14 @@ def bound_names(tree):
             yield node.name
 
 
+def top_names(tree):
+    for node in tree.body:
+        if isinstance(node, ast.Assign):
+            yield node.targets[0].id
+        elif isinstance(node, (ast.FunctionDef, ast.ClassDef)):
+            yield node.name
+
+
 class Form(unittest.TestCase):
     def trees(self):
         for path in FILES:
@@ -92,6 +100,31 @@ class Form(unittest.TestCase):
             self.assertRegex(node.module, r"\Arelaymoves\.[a-z0-9_]+\Z")
             self.assertEqual(node.level, 0)
             self.assertNotIn("*", [alias.name for alias in node.names])
+
+    def test_names_are_drawn_from_the_file_that_defines_them(self):
+        for node in self.nodes(ast.ImportFrom):
+            tree = ast.parse((PACKAGE / (node.module.split(".")[1] + ".py")).read_text())
+            for alias in node.names:
+                self.assertIn(alias.name, top_names(tree))
+                self.assertIsNone(alias.asname)
+
+    def test_no_two_files_draw_from_one_another(self):
+        drawn = {path.stem: {node.module.split(".")[1] for node in ast.walk(ast.parse(path.read_text()))
+                             if isinstance(node, ast.ImportFrom)} for path in FILES}
+        while drawn:
+            free = [name for name in drawn if not drawn[name] & set(drawn)]
+            self.assertNotEqual(free, [], drawn)
+            for name in free:
+                drawn.pop(name)
+
+    def test_a_name_of_a_files_top_is_bound_once_and_hidden_by_no_local(self):
+        for tree in self.trees():
+            names = list(top_names(tree)) + [alias.name for node in tree.body if isinstance(node, ast.ImportFrom)
+                                             for alias in node.names]
+            self.assertEqual(len(names), len(set(names)))
+            for function in ast.walk(tree):
+                if isinstance(function, ast.FunctionDef):
+                    self.assertFalse(set(names) & set(bound_names(function)) - {function.name}, function.name)
 
     def test_names(self):
         for tree in self.trees():

@@ -4,14 +4,10 @@ import random
 import unittest
 
 from helper import (MOVES, TOLD, UNSETTLED, ask, last, lines, load, move, on, plain_moves, plain_unsettled, put,
-                    random_scheme)
+                    random_scheme, relays_at_the_rail)
 
 # Relays 0, 2 and 4 are unsettled in state 0, relays 1 and 3 are not.
 EVEN = load(lines("in a", *[f"relay r{count} at {count % 2}" for count in range(5)]))
-
-
-def relays_at_the_rail(count):
-    return load(lines(*[f"relay r{place} at 0" for place in range(count)]))
 
 
 class Move(unittest.TestCase):
